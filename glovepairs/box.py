@@ -39,8 +39,28 @@ class Box:
         again = self.first_told_again(plan)
         if again is not None:
             return [-7, again]
-        gaps = [self.gap(left, right) for left, right in self.paired(plan)]
-        return [len(gaps), sum(gaps)]
+        return self.measured(plan)
+
+    def best(self):
+        plans = self.plans(self.differ)
+        most = max([self.pairs_of(plan) for plan in plans])
+        fullest = [plan for plan in plans if self.pairs_of(plan) == most]
+        least = min([self.off(plan) for plan in fullest])
+        as_good = [plan for plan in fullest if self.off(plan) == least]
+        # The earlier plans come first, so the first of those as good is the earliest.
+        return [most, least, len(as_good)] + as_good[0]
+
+    def plain(self):
+        plan = self.from_the_smallest_on()
+        return self.measured(plan) + plan
+
+    def needs(self, pairs):
+        if pairs > len(self.lefts) or pairs > len(self.rights):
+            return [-6]
+        # No two sizes differ by more than the largest one: here any two may be a pair.
+        plans = self.plans(LARGEST)
+        enough = [plan for plan in plans if self.pairs_of(plan) >= pairs]
+        return [min([self.widest(plan) for plan in enough])]
 
     def is_plan(self, plan):
         """Whether there is a number for each left one, and each a right one or none."""
@@ -56,6 +76,23 @@ class Box:
 
     def gap(self, left, right):
         return abs(self.lefts[left] - self.rights[right])
+
+    def gaps(self, plan):
+        """How much each pair of the plan differs."""
+        return [self.gap(left, right) for left, right in self.paired(plan)]
+
+    def pairs_of(self, plan):
+        return len(self.paired(plan))
+
+    def off(self, plan):
+        return sum(self.gaps(plan))
+
+    def widest(self, plan):
+        """How much a pair has to be allowed to differ for this plan."""
+        return max(self.gaps(plan), default=0)
+
+    def measured(self, plan):
+        return [self.pairs_of(plan), self.off(plan)]
 
     def first_too_far(self, plan):
         """The first left one that differs too much from its right one, or None."""
@@ -73,6 +110,42 @@ class Box:
             told.append(right)
         return None
 
+    def plans(self, differ):
+        """Each plan that can be where a pair may differ so much, the earlier ones first."""
+        begun = [[]]
+        for left in range(len(self.lefts)):
+            longer = []
+            for plan in begun:
+                longer.extend([plan + [right] for right in self.choices(left, plan, differ)])
+            begun = longer
+        return begun
+
+    def choices(self, left, plan, differ):
+        """What this left one may have behind a plan for those before it, lower numbers first."""
+        none = len(self.rights)
+        free = [right for right in range(none) if right not in plan]
+        return [right for right in free if self.gap(left, right) <= differ] + [none]
+
+    def from_the_smallest_on(self):
+        lefts = by_size(self.lefts)
+        rights = by_size(self.rights)
+        plan = [len(rights)] * len(lefts)
+        at_left = 0
+        at_right = 0
+        while at_left < len(lefts) and at_right < len(rights):
+            left = lefts[at_left]
+            right = rights[at_right]
+            if self.gap(left, right) <= self.differ:
+                plan[left] = right
+                at_left += 1
+                at_right += 1
+            # Two of one size may always be a pair, so here one is the lesser.
+            elif self.lefts[left] < self.rights[right]:
+                at_left += 1
+            else:
+                at_right += 1
+        return plan
+
 
 def put_in(side, size):
     """Put a glove to the others of its side; its number among them."""
@@ -82,6 +155,11 @@ def put_in(side, size):
         return [-5]
     side.append(size)
     return [len(side) - 1]
+
+
+def by_size(side):
+    """The numbers of a side's gloves from the smallest on, of one size by number."""
+    return sorted(range(len(side)), key=lambda number: side[number])
 
 
 def answer_one(box, call, given):
@@ -94,8 +172,11 @@ def answer_one(box, call, given):
         return box.right(given[0])
     if call == 3:
         return box.check(given)
-    # Failing is better than a made-up answer to a call that isn't written.
-    raise KeyError(call)
+    if call == 4:
+        return box.best()
+    if call == 5:
+        return box.plain()
+    return box.needs(given[0])
 
 
 def answers(calls):
